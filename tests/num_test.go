@@ -386,9 +386,12 @@ func TestNumbersAreNewMemory(t *testing.T) {
 	}
 	// What is written into the spare room of one answer must not be seen in another one.
 	first = append(first, 6, 7)
-	third, ok := impl.NumsRead("acAb")
-	if !ok || !slices.Equal(second, []int{0, 1, 8}) || !slices.Equal(third, second) || len(first) != 5 {
-		t.Error("shared", second, third)
+	// Looked at ahead of the next call, which would set right what both share.
+	if !slices.Equal(second, []int{0, 1, 8}) || len(first) != 5 {
+		t.Error("shared", second)
+	}
+	if third, ok := impl.NumsRead("acAb"); !ok || !slices.Equal(third, second) {
+		t.Error("shared", third)
 	}
 }
 
