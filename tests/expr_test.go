@@ -188,27 +188,29 @@ func TestPartsByHand(t *testing.T) {
 	}
 }
 
-// Each mark as the first and as the second kid of each mark, with the brackets that the document asks.
+// bracketRows are each mark as the first and as the second kid of each mark, with the brackets that the document asks.
+var bracketRows = []struct{ inner, outer, first, second string }{
+	{"<", "<", "( a < b ) < c", "a < ( b < c )"},
+	{"+", "<", "a + b < c", "a < b + c"},
+	{"-", "<", "a - b < c", "a < b - c"},
+	{"*", "<", "a * b < c", "a < b * c"},
+	{"<", "+", "( a < b ) + c", "a + ( b < c )"},
+	{"+", "+", "a + b + c", "a + ( b + c )"},
+	{"-", "+", "a - b + c", "a + ( b - c )"},
+	{"*", "+", "a * b + c", "a + b * c"},
+	{"<", "-", "( a < b ) - c", "a - ( b < c )"},
+	{"+", "-", "a + b - c", "a - ( b + c )"},
+	{"-", "-", "a - b - c", "a - ( b - c )"},
+	{"*", "-", "a * b - c", "a - b * c"},
+	{"<", "*", "( a < b ) * c", "a * ( b < c )"},
+	{"+", "*", "( a + b ) * c", "a * ( b + c )"},
+	{"-", "*", "( a - b ) * c", "a * ( b - c )"},
+	{"*", "*", "a * b * c", "a * ( b * c )"},
+}
+
 func TestBracketsOfEachMarkWithinEachMark(t *testing.T) {
 	a, b, c := name("a"), name("b"), name("c")
-	for _, row := range []struct{ inner, outer, first, second string }{
-		{"<", "<", "( a < b ) < c", "a < ( b < c )"},
-		{"+", "<", "a + b < c", "a < b + c"},
-		{"-", "<", "a - b < c", "a < b - c"},
-		{"*", "<", "a * b < c", "a < b * c"},
-		{"<", "+", "( a < b ) + c", "a + ( b < c )"},
-		{"+", "+", "a + b + c", "a + ( b + c )"},
-		{"-", "+", "a - b + c", "a + ( b - c )"},
-		{"*", "+", "a * b + c", "a + b * c"},
-		{"<", "-", "( a < b ) - c", "a - ( b < c )"},
-		{"+", "-", "a + b - c", "a - ( b + c )"},
-		{"-", "-", "a - b - c", "a - ( b - c )"},
-		{"*", "-", "a * b - c", "a - b * c"},
-		{"<", "*", "( a < b ) * c", "a * ( b < c )"},
-		{"+", "*", "( a + b ) * c", "a * ( b + c )"},
-		{"-", "*", "( a - b ) * c", "a * ( b - c )"},
-		{"*", "*", "a * b * c", "a * ( b * c )"},
-	} {
+	for _, row := range bracketRows {
 		checkWords(t, two(two(a, row.inner, b), row.outer, c), row.first)
 		checkWords(t, two(a, row.outer, two(b, row.inner, c)), row.second)
 		// A part as of a type needs no brackets, whatever it is beside.

@@ -39,22 +39,25 @@ func lineByRule(s impl.Stmt) string {
 	return ""
 }
 
-// widestPart is how wide a part of just so many parts, in so many levels, can be; below 0, if there is none.
-func widestPart(size int, levels int, must int) int {
+// widestPart is how wide a part of just so many parts, in so many levels, can be, with types or without; below 0, if there is none.
+func widestPart(size int, levels int, must int, types bool) int {
 	if size < 1 || levels < 1 {
 		return -1000
 	}
 	if size == 1 {
 		return len("longname")
 	}
-	widest := widestPart(size-1, levels-1, 4) + len(" as bool")
+	widest := -1000
+	if types {
+		widest = widestPart(size-1, levels-1, 4, types) + len(" as bool")
+	}
 	for mark, hold := range holds {
 		brackets := 0
 		if hold < must {
 			brackets = len("( ") + len(" )")
 		}
 		for left := 1; left < size-1; left++ {
-			widest = max(widest, widestPart(left, levels-1, firstMust[mark])+len(" + ")+widestPart(size-1-left, levels-1, secondMust[mark])+brackets)
+			widest = max(widest, widestPart(left, levels-1, firstMust[mark], types)+len(" + ")+widestPart(size-1-left, levels-1, secondMust[mark], types)+brackets)
 		}
 	}
 	return widest
@@ -63,10 +66,15 @@ func widestPart(size int, levels int, must int) int {
 // wideShapes are parts with a mark in the place of each name, from narrow to wide; with names of 1 to 8 letters they have each width of 1 to 93.
 var wideShapes = []string{"?", "? + ?", "? + ? + ( ? + ? )", "? as bool + ? as bool + ( ? + ? )", "? as bool * ? as bool + ? as bool * ? as bool", "( ( ? as bool + ? as bool ) * ( ? as bool + ? as bool ) ) as bool"}
 
-// partOfWidth is a part whose words have just so many bytes, with one space between; its names have the letter.
 func partOfWidth(t *testing.T, width int, letter string) (impl.Expr, string) {
 	t.Helper()
-	for _, shape := range wideShapes {
+	return shapedPart(t, wideShapes, width, letter)
+}
+
+// shapedPart is a part whose words have just so many bytes, with one space between; its names have the letter.
+func shapedPart(t *testing.T, shapes []string, width int, letter string) (impl.Expr, string) {
+	t.Helper()
+	for _, shape := range shapes {
 		marks := strings.Count(shape, "?")
 		more := width - len(shape)
 		if more < 0 || more > 7*marks {
@@ -119,7 +127,7 @@ func TestWidthOfWhens(t *testing.T) {
 func TestWidthOfLetsAndSays(t *testing.T) {
 	widest := 0
 	for size := 1; size <= mostParts; size++ {
-		widest = max(widest, widestPart(size, mostAround+1, 0))
+		widest = max(widest, widestPart(size, mostAround+1, 0, true))
 	}
 	if widest != 93 {
 		t.Fatal("the widest part has", widest, "bytes")
@@ -195,47 +203,53 @@ func checkReadIsWritten(t *testing.T, text string) bool {
 	return true
 }
 
-// Texts that differ in a byte or a word from one of a line: they are that of another line, or of none.
+// changedTexts differ from the text of a line in a byte or a word. Those of never have a space or a newline too many, or a space too few; the others are the text of another line, or of none.
+func changedTexts(text string) (never []string, others []string) {
+	for at := range len(text) + 1 {
+		never = append(never, text[:at]+" "+text[at:], text[:at]+"\n"+text[at:])
+		others = append(others, text[:at], text[at:])
+		for _, b := range []string{"x", "1", "(", ")", ":", "=", "+", "0", "as", "say", "print", "if", "\t", "\xff", "\u00e9", "X"} {
+			others = append(others, text[:at]+b+text[at:])
+			if at < len(text) {
+				others = append(others, text[:at]+b+text[at+1:])
+			}
+		}
+		if at < len(text) && text[at] == ' ' {
+			never = append(never, text[:at]+text[at+1:])
+		} else if at < len(text) {
+			others = append(others, text[:at]+text[at+1:])
+		}
+	}
+	words := strings.Fields(text)
+	for at := range words {
+		others = append(others, strings.Join(slices.Delete(slices.Clone(words), at, at+1), " "))
+		others = append(others, strings.Join(slices.Insert(slices.Clone(words), at, words[at]), " "))
+		for other := range at {
+			swapped := slices.Clone(words)
+			swapped[at], swapped[other] = swapped[other], swapped[at]
+			others = append(others, strings.Join(swapped, " "))
+		}
+	}
+	return never, others
+}
+
 func TestChangedTexts(t *testing.T) {
 	s := steps(17)
 	read, notRead := 0, 0
-	count := func(ok bool) {
-		if ok {
-			read++
-		} else {
-			notRead++
-		}
-	}
 	for range 120 {
 		text := lineByRule(s.line())
 		if len(text) > widestLine {
 			continue
 		}
-		for at := range len(text) + 1 {
-			checkStmtNotRead(t, text[:at]+" "+text[at:])
-			checkStmtNotRead(t, text[:at]+"\n"+text[at:])
-			count(checkReadIsWritten(t, text[:at]))
-			count(checkReadIsWritten(t, text[at:]))
-			for _, b := range []string{"x", "1", "(", ")", ":", "=", "+", "0", "as", "say", "\t", "\xff", "\u00e9", "X"} {
-				count(checkReadIsWritten(t, text[:at]+b+text[at:]))
-				if at < len(text) {
-					count(checkReadIsWritten(t, text[:at]+b+text[at+1:]))
-				}
-			}
-			if at < len(text) && text[at] == ' ' {
-				checkStmtNotRead(t, text[:at]+text[at+1:])
-			} else if at < len(text) {
-				count(checkReadIsWritten(t, text[:at]+text[at+1:]))
-			}
+		never, others := changedTexts(text)
+		for _, changed := range never {
+			checkStmtNotRead(t, changed)
 		}
-		words := strings.Fields(text)
-		for at := range words {
-			count(checkReadIsWritten(t, strings.Join(slices.Delete(slices.Clone(words), at, at+1), " ")))
-			count(checkReadIsWritten(t, strings.Join(slices.Insert(slices.Clone(words), at, words[at]), " ")))
-			for other := range at {
-				swapped := slices.Clone(words)
-				swapped[at], swapped[other] = swapped[other], swapped[at]
-				count(checkReadIsWritten(t, strings.Join(swapped, " ")))
+		for _, changed := range others {
+			if checkReadIsWritten(t, changed) {
+				read++
+			} else {
+				notRead++
 			}
 		}
 	}
@@ -244,16 +258,24 @@ func TestChangedTexts(t *testing.T) {
 	}
 }
 
+// A reading is how lines of one side are read, and which are the same.
+type reading[T any] struct {
+	read func(text string) (T, bool)
+	same func(a T, b T) bool
+}
+
+var readStmts = reading[impl.Stmt]{impl.StmtRead, sameLine}
+
 // checkAllTexts reads each row of up to so many pieces: those that are the text of a line, and no others, are read.
-func checkAllTexts(t *testing.T, most int, pieces []string, between string, want map[string]impl.Stmt) {
+func (r reading[T]) checkAllTexts(t *testing.T, most int, pieces []string, between string, want map[string]T) {
 	t.Helper()
 	read := 0
 	var try func(text string, left int)
 	try = func(text string, left int) {
-		s, ok := impl.StmtRead(text)
+		got, ok := r.read(text)
 		line, there := want[text]
-		if ok != there || !sameLine(s, line) {
-			t.Fatalf("%q is read as %v %v, want %v %v", text, s, ok, line, there)
+		if ok != there || !r.same(got, line) {
+			t.Fatalf("%q is read as %v %v, want %v %v", text, got, ok, line, there)
 		}
 		if ok {
 			read++
@@ -296,10 +318,10 @@ func allLines(parts [][]impl.Expr, names []string, types []string) map[string]im
 
 func TestAllShortRowsOfWords(t *testing.T) {
 	leaves := []impl.Expr{number(1), name("x")}
-	checkAllTexts(t, 6, []string{"let", "x", ":", "int", "=", "1", "say", "when"}, " ", allLines([][]impl.Expr{leaves}, []string{"x"}, []string{"int"}))
-	checkAllTexts(t, 6, []string{"say", "when", "x", "1", "+", "as", "int", "("}, " ", allLines(partsOfSize(5, leaves, []string{"+"}, []string{"int"}), nil, nil))
-	checkAllTexts(t, 8, []string{"when", "say", "x", "*", "<"}, " ", allLines(partsOfSize(7, leaves[1:], []string{"*", "<"}, nil), nil, nil))
-	checkAllTexts(t, 8, []string{"say", "(", ")", "x", "-"}, " ", allLines(partsOfSize(7, leaves[1:], []string{"-"}, nil), nil, nil))
+	readStmts.checkAllTexts(t, 6, []string{"let", "x", ":", "int", "=", "1", "say", "when"}, " ", allLines([][]impl.Expr{leaves}, []string{"x"}, []string{"int"}))
+	readStmts.checkAllTexts(t, 6, []string{"say", "when", "x", "1", "+", "as", "int", "("}, " ", allLines(partsOfSize(5, leaves, []string{"+"}, []string{"int"}), nil, nil))
+	readStmts.checkAllTexts(t, 8, []string{"when", "say", "x", "*", "<"}, " ", allLines(partsOfSize(7, leaves[1:], []string{"*", "<"}, nil), nil, nil))
+	readStmts.checkAllTexts(t, 8, []string{"say", "(", ")", "x", "-"}, " ", allLines(partsOfSize(7, leaves[1:], []string{"-"}, nil), nil, nil))
 }
 
 // All texts of up to eight bytes of a small alphabet: spaces are where they must be, and nowhere else.
@@ -318,7 +340,7 @@ func TestAllShortTextsOfLines(t *testing.T) {
 	}
 	grow("")
 	want["say 1"], want["say 11"], want["say 111"], want["say 1111"] = say(number(1)), say(number(11)), say(number(111)), say(number(1111))
-	checkAllTexts(t, 8, []string{"s", "a", "y", " ", "1"}, "", want)
+	readStmts.checkAllTexts(t, 8, []string{"s", "a", "y", " ", "1"}, "", want)
 }
 
 func checkSameStmts(t *testing.T, a impl.Stmt, b impl.Stmt, want bool) {
