@@ -603,14 +603,8 @@ func TestBaresThatAreNotOk(t *testing.T) {
 	checkPrints(t, good, strings.Join(texts, "\n"), []int{1, 1}, true)
 	for _, bad := range badBares() {
 		checkNoBare(t, bad)
-		checkNotRun(t, []impl.Bare{bad, bad})
-		for at := range len(good) + 1 {
-			checkNotRun(t, slices.Insert(slices.Clone(good), at, bad))
-		}
-		for _, at := range []int{0, 7, mostLines - 1} {
-			full := slices.Repeat(good, mostLines/len(good))
-			full[at] = bad
-			checkNotRun(t, full)
+		for _, list := range withOne(good, bad) {
+			checkNotRun(t, list)
 		}
 		// Nothing is printed also if an earlier line can not be reckoned.
 		checkNotRun(t, []impl.Bare{prints(number(7)), prints(name("y")), bad})

@@ -356,8 +356,8 @@ func allOfLines(p []impl.Stmt) string {
 	return text.String()
 }
 
-func TestProgramsAreOnlyLookedAt(t *testing.T) {
-	s := steps(47)
+// programsWithRoom are programs, and lines that are none, with room behind the end of all their lists, and marks in it.
+func programsWithRoom(s steps) [][]impl.Stmt {
 	var all [][]impl.Stmt
 	for range 200 {
 		all = append(all, s.program(1+s.below(mostLines+2), 10))
@@ -367,13 +367,19 @@ func TestProgramsAreOnlyLookedAt(t *testing.T) {
 			all = append(all, []impl.Stmt{let("x", "int", number(1)), bad, say(name("x"))}, []impl.Stmt{bad})
 		}
 	}
-	for _, lines := range all {
+	for i, lines := range all {
 		room := []impl.Stmt{}
 		for _, line := range append(slices.Clone(lines), say(name("behind")), impl.Stmt{Kind: -7, Name: "behind"}) {
 			line.Expr, line.Then = withRoom(line.Expr), withRoom(line.Then)
 			room = append(room, line)
 		}
-		p := room[:len(lines)]
+		all[i] = room[:len(lines)]
+	}
+	return all
+}
+
+func TestProgramsAreOnlyLookedAt(t *testing.T) {
+	for _, p := range programsWithRoom(47) {
 		before := allOfLines(p)
 		impl.ProgOk(p)
 		impl.ProgText(p)

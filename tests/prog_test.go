@@ -435,19 +435,26 @@ func badLines() []impl.Stmt {
 	return all
 }
 
+// withOne are lists that have one thing: alone, twice, at each place of a list, and at some places of one that is full.
+func withOne[T any](list []T, one T) [][]T {
+	all := [][]T{{one}, {one, one}}
+	for at := range len(list) + 1 {
+		all = append(all, slices.Insert(slices.Clone(list), at, one))
+	}
+	for _, at := range []int{0, 7, mostLines - 1} {
+		full := slices.Repeat(list, mostLines/len(list))
+		full[at] = one
+		all = append(all, full)
+	}
+	return all
+}
+
 func TestLinesThatAreNotOk(t *testing.T) {
 	good := []impl.Stmt{let("x", "int", number(1)), say(name("x")), {}, when(two(number(1), "<", number(2)), name("x"))}
 	checkDoes(t, good, noneWrong, []int{1, 1}, true)
 	for _, bad := range badLines() {
-		checkNoProg(t, []impl.Stmt{bad})
-		checkNoProg(t, []impl.Stmt{bad, bad})
-		for at := range len(good) + 1 {
-			checkNoProg(t, slices.Insert(slices.Clone(good), at, bad))
-		}
-		for _, at := range []int{0, 7, mostLines - 1} {
-			full := slices.Repeat(good, mostLines/len(good))
-			full[at] = bad
-			checkNoProg(t, full)
+		for _, p := range withOne(good, bad) {
+			checkNoProg(t, p)
 		}
 		// It is no program also if an earlier line can not be reckoned, or has no type.
 		checkNoProg(t, []impl.Stmt{say(name("y")), bad})
